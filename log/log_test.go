@@ -888,8 +888,8 @@ func TestCrashesAnywhere(t *testing.T) {
 	for at := range 28 {
 		for keep := range 20 {
 			first(at, keep)
-			for again := range 8 {
-				for left := range 20 {
+			for again := range 11 {
+				for left := range 24 {
 					d := first(at, keep)
 					d.Arm(api.Crash{At: again, Keep: left})
 					was, is, err := work(t, d, []string{"x", "!y", "z"})
